@@ -1,0 +1,1 @@
+"""Laws of adding that are power series, told by logs, integers, primes, curves and genera."""

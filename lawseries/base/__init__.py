@@ -1,0 +1,1 @@
+"""What everything else stands on: ratios and plain numbers."""

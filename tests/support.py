@@ -1,0 +1,129 @@
+"""What the tests share: wrong values, checks of errors, and a runner of the document's examples."""
+
+import copy
+import unittest
+
+from lawseries import errors
+from lawseries.base.ratios import Ratio
+
+# An integer of sixty digits is passed, one of sixty-one is not.
+SIXTY = 10 ** 60 - 1
+LONG = 10 ** 60
+
+
+def eight_deep():
+    """A value of each kind of bundle, nested as deep as a value may be."""
+    return [[(((({"a": [(1,)]},),),),)]]
+
+
+def long_ratio():
+    """A ratio with more than sixty digits in its top and in its bottom, made by the package."""
+    return Ratio(SIXTY).over(10 ** 59).times(Ratio(SIXTY - 1).over(10 ** 59))
+
+
+def other_kinds():
+    """Values of each kind that is no integer, no ratio, no string and no tuple."""
+    return [
+        True, False, None, [], [2], [2, 3], [[2]], {}, {2: 3}, {"a": (2,)}, eight_deep(),
+        errors.InvalidCount(2), errors.InvalidRatio("2"), errors.ParseError(2),
+    ]
+
+
+def some_strings():
+    return ["", " ", "2", "-2", "1/2", "a", "abc", "A", "~" * 4000]
+
+
+def some_tuples():
+    return [(), (2,), (2, 3), (True,), ("a",), ((2,), [3]), (Ratio(2),)]
+
+
+def long_integers():
+    return [LONG, -LONG, 10 ** 99, 10 ** 100 - 1, 1 - 10 ** 100]
+
+
+def some_ratios():
+    return [Ratio(2), Ratio(0), Ratio(1, 2), Ratio(-3, 4), long_ratio()]
+
+
+def no_integers():
+    """Values that are no integers of at most sixty digits."""
+    return other_kinds() + some_strings() + some_tuples() + some_ratios() + long_integers()
+
+
+def no_ratios():
+    """Values that are neither ratios nor integers of at most sixty digits."""
+    return other_kinds() + some_strings() + some_tuples() + long_integers()
+
+
+class Checks(unittest.TestCase):
+    """A test case that looks at the very class of an error, and at what it keeps."""
+
+    def refused(self, error, call, *arguments):
+        """The error of a call, which has just the class `error`, and has changed no argument."""
+        before = [told(argument) for argument in arguments]
+        with self.assertRaises(error) as caught:
+            call(*arguments)
+        self.assertIs(type(caught.exception), error)
+        self.assertEqual([told(argument) for argument in arguments], before)
+        return caught.exception
+
+    def count_refused(self, value, call, *arguments):
+        """The call raises InvalidCount and keeps this very value, True not for 1."""
+        error = self.refused(errors.InvalidCount, call, *arguments)
+        self.assertIs(type(error.value), type(value))
+        if isinstance(value, int):
+            self.assertEqual(error.value, value)
+        else:
+            self.assertIs(error.value, value)
+
+
+def told(value):
+    """A text that tells a value, to see whether it has changed."""
+    if isinstance(value, (tuple, list)):
+        return (type(value).__name__, [told(member) for member in value])
+    if isinstance(value, dict):
+        return ("dict", [(told(key), told(value[key])) for key in value])
+    if isinstance(value, (bool, int, str, type(None))):
+        return (type(value).__name__, copy.copy(value))
+    return (type(value).__name__, told(vars(value)))
+
+
+class Examples(Checks):
+    """Runs examples as they stand in the document: `>>>`, a row, and a value or `raises`."""
+
+    def run_examples(self, text, names):
+        names = dict(names)
+        for code, expected in example_pairs(text):
+            with self.subTest(code=code):
+                self.run_example(code, expected, names)
+
+    def run_example(self, code, expected, names):
+        if expected is None:
+            exec(code, names)
+        elif expected.startswith("raises "):
+            self.check_raised(code, expected.removeprefix("raises "), names)
+        else:
+            self.assertEqual(repr(eval(code, names)), expected)
+
+    def check_raised(self, code, expected, names):
+        name = expected.partition("(")[0]
+        with self.assertRaises(Exception) as caught:
+            exec(code, names)
+        self.assertIs(type(caught.exception), getattr(errors, name))
+        if "(" in expected:
+            wanted = eval(expected, dict(vars(errors)))
+            self.assertEqual(vars(caught.exception), vars(wanted))
+
+
+def example_pairs(text):
+    """Pairs of a row of code and the row expected behind it, or None."""
+    pairs = []
+    for row in text.strip().split("\n"):
+        if row.startswith(">>> "):
+            pairs.append((row[4:], None))
+        else:
+            code, before = pairs.pop()
+            if before is not None:
+                raise ValueError(f"two rows behind {code}")
+            pairs.append((code, row))
+    return pairs
