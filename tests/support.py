@@ -5,6 +5,9 @@ import unittest
 
 from lawseries import errors
 from lawseries.base.ratios import Ratio
+from lawseries.double.doubles import Double
+from lawseries.law.laws import Law
+from lawseries.row.rows import Row
 
 # An integer of sixty digits is passed, one of sixty-one is not.
 SIXTY = 10 ** 60 - 1
@@ -55,6 +58,49 @@ def no_ratios():
     return other_kinds() + some_strings() + some_tuples() + long_integers()
 
 
+def no_tuples():
+    """Values that are no tuples."""
+    return other_kinds() + some_strings() + some_ratios() + long_integers() + [0, 1, 2]
+
+
+def package_objects():
+    """An object of each class of the package but Ratio and the errors, of some moduli."""
+    return [
+        Row((0, 2, 1)), Row((3,)), Row((0, 1, 0), modulus=5), Row((0, 1) + (0,) * 20),
+        Double(2, {(1, 0): 1, (0, 1): 1}), Double(2, {(0, 1): 2}, modulus=5), Double(1, {}),
+        Law.additive(2), Law.multiplicative(3, 1, modulus=5),
+    ]
+
+
+def no_objects():
+    """Values of all kinds that are no objects of the package, and its ratios and errors."""
+    return no_integers() + [0, 1, 2, -1, 5]
+
+
+def others_than(kind):
+    """Values of all kinds but one class of the package."""
+    return no_objects() + [value for value in package_objects() if not isinstance(value, kind)]
+
+
+def no_moduli():
+    return no_integers() + package_objects() + [1, -1, -2, 10001, 10 ** 9]
+
+
+def no_counts(low, high):
+    """What is no integer from low to high."""
+    return no_integers() + package_objects() + [low - 1, high + 1, -10 ** 9, 10 ** 60 - 1]
+
+
+def no_primes():
+    """What is no prime number to 997, each with its error."""
+    wrong = no_integers() + package_objects() + [0, 1, -1, -2, -7, 4, 9, 91, 998, 1009, 10 ** 9 + 7]
+    return bad(errors.InvalidPrime, wrong)
+
+
+def bad(error, values):
+    return [(error, value) for value in values]
+
+
 class Checks(unittest.TestCase):
     """A test case that looks at the very class of an error, and at what it keeps."""
 
@@ -75,6 +121,40 @@ class Checks(unittest.TestCase):
             self.assertEqual(error.value, value)
         else:
             self.assertIs(error.value, value)
+
+
+    def check_errors(self, call, good, wrong, then=()):
+        """All errors of a call.
+
+        `good` are arguments that pass, `wrong` has for each of them a list of pairs of an error
+        and a wrong value in its place, `then` are pairs of an error that comes last and arguments.
+        """
+        call(*good)
+        for arguments in [good] + [arguments for _, arguments in then]:
+            for place, pairs in enumerate(wrong):
+                for error, value in pairs:
+                    mixed = list(arguments)
+                    mixed[place] = value
+                    self.raised(error, value, call, *mixed)
+        self.check_two_wrong(call, good, wrong)
+        for error, arguments in then:
+            self.refused(error, call, *arguments)
+
+    def check_two_wrong(self, call, good, wrong):
+        """Of two wrong arguments the first one tells the error."""
+        for place, pairs in enumerate(wrong):
+            for later in range(place + 1, len(wrong)):
+                for error, value in pairs:
+                    for _, second in wrong[later][::max(1, len(wrong[later]) // 6)]:
+                        mixed = list(good)
+                        mixed[place], mixed[later] = value, second
+                        self.raised(error, value, call, *mixed)
+
+    def raised(self, error, value, call, *arguments):
+        if error is errors.InvalidCount:
+            self.count_refused(value, call, *arguments)
+        else:
+            self.refused(error, call, *arguments)
 
 
 def told(value):

@@ -35,6 +35,13 @@ NEVER_WORDS = set("""
     type typing typing_extensions enum Enum IntEnum StrEnum Flag IntFlag Generic Protocol ABC
     ABCMeta namedtuple NamedTuple TypedDict TYPE_CHECKING abstractmethod
 """.split())
+LISTED_METHODS = set("""
+    append clear copy count endswith extend find get index insert isalnum isalpha isdigit islower
+    isspace isupper items join keys ljust lower lstrip partition pop remove replace reverse rfind
+    rjust rpartition rsplit rstrip setdefault split splitlines startswith strip update upper values
+    zfill bit_length title capitalize swapcase casefold center expandtabs removeprefix removesuffix
+    rindex isascii isdecimal isnumeric istitle isidentifier isprintable
+""".split())
 STATEMENTS = (ast.Import, ast.Global, ast.AsyncFunctionDef, ast.AsyncFor, ast.AsyncWith)
 BEGINNINGS = ("__", "_wall", "_pe_", "_dcw_", "_enum_", "_cm_", "_twin_re_", "_lay_", "_law_",
               "_stub_", "_sre", "_cold", "_tuplegetter", "_outside", "_record", "_written_out",
@@ -192,6 +199,72 @@ class TestLanguage(unittest.TestCase):
                 self.assertNotIn(node.attr, NEVER_NAMES, place)
             if isinstance(node, ast.keyword):
                 self.assertNotIn(node.arg, NEVER_NAMES, place)
+
+    def test_names_of_imports_and_classes(self):
+        """L15: no parameter and no variable has the name of an import or a class of its file."""
+        for path, tree in self.trees.items():
+            taken = {node.name for node in tree.body if isinstance(node, ast.ClassDef)}
+            for node in tree.body:
+                if isinstance(node, ast.ImportFrom):
+                    taken |= {alias.name for alias in node.names}
+            for node in ast.walk(tree):
+                if isinstance(node, ast.arg):
+                    self.assertNotIn(node.arg, taken, path)
+                if isinstance(node, ast.Name) and not isinstance(node.ctx, ast.Load):
+                    self.assertNotIn(node.id, taken, path)
+
+    def test_methods_and_attributes(self):
+        """L18, L25, L26: own methods or listed ones; no name is a method here and an attribute there."""
+        methods, properties, attributes = set(), set(), set()
+        for _, node in self.nodes():
+            if isinstance(node, ast.ClassDef):
+                for one in node.body:
+                    if isinstance(one, ast.FunctionDef):
+                        told = {ast.unparse(part) for part in one.decorator_list}
+                        (properties if "property" in told else methods).add(one.name)
+            if isinstance(node, ast.Attribute) and isinstance(node.ctx, ast.Store):
+                attributes.add(node.attr)
+        self.assertFalse(properties & attributes)
+        self.assertFalse(methods & attributes)
+        self.assertFalse(methods & properties)
+        self.assertFalse((properties | attributes) & LISTED_METHODS)
+        for place, node in self.nodes():
+            if isinstance(node, ast.Call) and isinstance(node.func, ast.Attribute):
+                self.assertIn(node.func.attr, methods | LISTED_METHODS, place)
+
+    def test_no_sets_and_no_try(self):
+        """L19, L24: the package does without them, so no rule of theirs can be broken."""
+        for place, node in self.nodes():
+            self.assertNotIsInstance(node, (ast.Set, ast.SetComp, ast.Try), place)
+            if isinstance(node, ast.Name):
+                self.assertNotIn(node.id, ("set", "frozenset"), place)
+
+    def test_exponents(self):
+        """L27: an exponent is a literal from 0 to 64."""
+        for place, node in self.nodes():
+            if isinstance(node, (ast.BinOp, ast.AugAssign)) and isinstance(node.op, ast.Pow):
+                exponent = node.right if isinstance(node, ast.BinOp) else node.value
+                self.assertIsInstance(exponent, ast.Constant, place)
+                self.assertIn(exponent.value, range(65), place)
+
+    def test_generators(self):
+        """L23: a generator has a name of its own, and is iterated where it is called."""
+        makers = {
+            node.name for _, node in self.nodes() if isinstance(node, ast.FunctionDef)
+            and any(isinstance(one, (ast.Yield, ast.YieldFrom)) for one in ast.walk(node))
+        }
+        iterated = set()
+        for _, node in self.nodes():
+            if isinstance(node, ast.For):
+                iterated.add(node.iter)
+            if isinstance(node, ast.YieldFrom):
+                iterated.add(node.value)
+            if isinstance(node, ast.Call) and getattr(node.func, "id", "") in ("list", "tuple", "sum"):
+                iterated.add(node.args[0])
+        for place, node in self.nodes():
+            if isinstance(node, ast.Call) and getattr(node.func, "id", "") in makers:
+                self.assertIn(node, iterated, place)
+                self.assertTrue(all(isinstance(one, ast.Name) for one in node.args), place)
 
     def test_words(self):
         """L17: words that stand in comments and docstrings alone."""

@@ -1,0 +1,1 @@
+"""Double rows: power series in two letters, as far as they are known."""

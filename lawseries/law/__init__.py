@@ -1,0 +1,1 @@
+"""Laws: double rows that add."""

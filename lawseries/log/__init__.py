@@ -1,0 +1,1 @@
+"""Logs: the rows that lead laws to x + y."""

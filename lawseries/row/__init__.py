@@ -1,0 +1,1 @@
+"""Rows: power series in one letter, as far as they are known."""
