@@ -1,0 +1,1 @@
+"""Heights of laws modulo a prime."""

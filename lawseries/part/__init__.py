@@ -1,0 +1,1 @@
+"""Parts and types of logs at a prime."""
