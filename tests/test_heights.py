@@ -69,6 +69,8 @@ class TestHeights(Checks):
             told = (height_of(given), head_of(given), inner_row(given))
             if p > degree:
                 self.assertEqual(told, (None, None, None))
+                if p <= 1000:
+                    self.assertIsNone(given.multiple(p).order)
                 continue
             fold = slow_fold(given, p)
             seen.add(told[0])
@@ -101,6 +103,8 @@ class TestHeights(Checks):
                 self.assertIsNone(height_of(given))
                 self.assertIsNone(head_of(given))
                 self.assertIsNone(inner_row(given))
+                if degree == 2 or modulus == 13:
+                    self.assertIsNone(slow_fold(given, modulus).order)
 
     def test_folds_of_integers(self):
         """8.2."""
