@@ -266,6 +266,23 @@ class TestLanguage(unittest.TestCase):
                 self.assertIn(node, iterated, place)
                 self.assertTrue(all(isinstance(one, ast.Name) for one in node.args), place)
 
+    def test_changes_of_what_is_walked(self):
+        """L5 Iteration, L23: what +=, extend and update are given is not what they change."""
+        for place, node in self.nodes():
+            if isinstance(node, ast.AugAssign):
+                changed, given = node.target, [node.value]
+                if isinstance(changed, ast.Name):
+                    continue
+            elif isinstance(node, ast.Call) and getattr(node.func, "attr", "") in ("extend", "update"):
+                changed, given = node.func.value, node.args
+            else:
+                continue
+            while isinstance(changed, ast.Subscript):
+                changed = changed.value
+            inside = [ast.unparse(one) for value in given for one in ast.walk(value)
+                      if isinstance(one, (ast.Name, ast.Attribute))]
+            self.assertNotIn(ast.unparse(changed), inside, place)
+
     def test_words(self):
         """L17: words that stand in comments and docstrings alone."""
         for path, tree in self.trees.items():

@@ -294,7 +294,12 @@ class TestPartitions(Checks):
 
     def test_some(self):
         self.assertEqual([partitions_of(number) for number in range(8)], [1, 1, 2, 3, 5, 7, 11, 15])
-        self.assertEqual(partitions_of(200), 3972999029388)
+        wanted = {0: 1, 1: 1, 10: 42, 200: 3972999029388}
+        self.assertEqual({number: partitions_of(number) for number in wanted}, wanted)
+
+    def test_one_beyond(self):
+        for value in (-1, 201):
+            self.count_refused(value, partitions_of, value)
 
     def test_wrong_values(self):
         for value in no_integers() + [-1, -2, 201, 202, BILLION, SIXTY]:

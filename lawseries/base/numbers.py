@@ -117,7 +117,7 @@ def partitions_of(number):
     ways = [1] + [0] * number
     for part in range(1, number + 1):
         for total in range(part, number + 1):
-            ways[total] += ways[total - part]
+            ways[total] = ways[total] + ways[total - part]
     return ways[number]
 
 
