@@ -5,9 +5,13 @@ import unittest
 
 from lawseries import errors
 from lawseries.base.ratios import Ratio
+from lawseries.cubic.cubics import Cubic
 from lawseries.double.doubles import Double
+from lawseries.euler.eulers import RULE_PRIMES, Rule
+from lawseries.ghost.ghosts import Witt
 from lawseries.law.laws import Law
 from lawseries.row.rows import Row
+from lawseries.use.desk import Desk
 
 # An integer of sixty digits is passed, one of sixty-one is not.
 SIXTY = 10 ** 60 - 1
@@ -63,9 +67,21 @@ def no_tuples():
     return other_kinds() + some_strings() + some_ratios() + long_integers() + [0, 1, 2]
 
 
+def some_desk():
+    """A desk with a law, a row, a pledge and changes to take back and to do again."""
+    desk = Desk()
+    desk.put("one", Law.multiplicative(3, 1))
+    desk.demand(("whole", "one"))
+    desk.fold("two", "one", 2)
+    desk.undo()
+    return desk
+
+
 def package_objects():
     """An object of each class of the package but Ratio and the errors, of some moduli."""
     return [
+        Witt((1, 2, 3)), Cubic(0, -1, 1, 0, 0), Rule(11, {prime: 1 for prime in RULE_PRIMES}),
+        Desk(), some_desk(),
         Row((0, 2, 1)), Row((3,)), Row((0, 1, 0), modulus=5), Row((0, 1) + (0,) * 20),
         Double(2, {(1, 0): 1, (0, 1): 1}), Double(2, {(0, 1): 2}, modulus=5), Double(1, {}),
         Law.additive(2), Law.multiplicative(3, 1, modulus=5),
@@ -80,6 +96,27 @@ def no_objects():
 def others_than(kind):
     """Values of all kinds but one class of the package."""
     return no_objects() + [value for value in package_objects() if not isinstance(value, kind)]
+
+
+def no_laws():
+    """What is no law, each with its error."""
+    wrong = others_than(Law) + [Law.additive(3).double, Double(4, {(1, 0): 1, (0, 1): 1, (2, 2): 1})]
+    return bad(errors.InvalidLaw, wrong)
+
+
+def no_rows():
+    return bad(errors.InvalidRow, others_than(Row))
+
+
+def no_curves():
+    wrong = [Row((1, 1)), Row((Ratio(1, 2),)), Row((6, 1), modulus=5), Row((1,) * 25)]
+    return bad(errors.InvalidCurve, others_than(Row) + wrong)
+
+
+def no_logs():
+    wrong = [Row((0, 1)), Row((0, 2, 1)), Row((1, 1, 1)), Row((0, 1, 0), modulus=5)]
+    wrong += [Row((0, 1) + (0,) * 12), Row((0, Ratio(1, 2), 0))]
+    return bad(errors.InvalidLog, no_objects() + package_objects() + wrong)
 
 
 def no_moduli():

@@ -4,13 +4,21 @@ import unittest
 
 from lawseries.base import numbers, ratios
 from lawseries.between import rows_between
+from lawseries.cubic import cubics
+from lawseries.curve import curves
 from lawseries.double import doubles
+from lawseries.euler import eulers
+from lawseries.genus import genera
+from lawseries.ghost import ghosts
 from lawseries.height import heights
 from lawseries.law import laws
+from lawseries.local import folds
 from lawseries.log import logs
+from lawseries.number import bernoullis
 from lawseries.part import parts
 from lawseries.row import rows
 from lawseries.step import steps
+from lawseries.use import desk
 from tests.support import Examples
 
 # The values that stand ahead of all examples.
@@ -149,8 +157,122 @@ STAGE_9 = """
 raises InvalidPrime
 """
 
-STAGES = [STAGE_1, STAGE_2, STAGE_3, STAGE_4, STAGE_5, STAGE_6, STAGE_7, STAGE_8, STAGE_9]
-MODULES = [numbers, ratios, rows, doubles, laws, logs, steps, rows_between, heights, parts]
+STAGE_10 = """
+>>> PLAIN, BENT = Row.plain(6), Row((0, 2, -1, 3, 0, 1))
+>>> [str(picked(TIMES, PLAIN, 2)), str(picked(TIMES, PLAIN, 3)), str(picked(SOME, Row.plain(5), 2)), str(picked(SOME, BENT, 2)), str(picked(SOME, BENT, 3))]
+['-x to 3', 'x to 2', 'x - x^2 to 2', '2*x + 3*x^2 to 2', '3*x to 1']
+>>> [str(shifted(BENT, 2)), str(stretched(BENT, -1)), str(picked(SOME, shifted(BENT, 2), 2)), str(SOME.sum_of(BENT, BENT).cut(2))]
+['2*x^2 - x^4 to 5', '-2*x - x^2 - 3*x^3 - x^5 to 5', '4*x - 6*x^2 to 2', '4*x - 6*x^2 to 2']
+>>> [str(picked(TIMES_FIVE, Row.plain(6, modulus=5), 5)), str(picked(TIMES_FIVE, Row.plain(6, modulus=5), 2)), str(curve_sum(TIMES, (PLAIN, PLAIN, PLAIN)))]
+['x to 1 modulo 5', '4*x to 3 modulo 5', '3*x + 3*x^2 + x^3 to 6']
+>>> [str(one) for one in terms_of(TIMES, Row((0, 1, 1, 0, 0, 0, 0)))]
+['1', '1', '-1', '1', '0', '0']
+>>> [str(curve_of_terms(SOME, (1, 1, 1, 0, -1))), are_terms(SOME, BENT, (2, -1, 3, 0, 1)), broken_prime(SOME), broken_prime(law_of_log(Row((0, 1, 0, 0, Ratio(1, 4)))))]
+['x + x^2 to 5', False, None, 2]
+>>> picked(TIMES, BENT, 6)
+raises InvalidOperation
+"""
+
+STAGE_11 = """
+>>> SUMS = (1, 3, 4, 7, 6, 12)
+>>> [are_ghosts(SUMS), ghost_row(SUMS).whole(), counts_of(SUMS), Witt.of_ghosts(SUMS).coordinates, are_ghosts((1, 2)), ghost_fault((1, 2)), str(ghost_row((1, 2)))]
+[True, (1, 1, 2, 3, 5, 7, 11), (1, 1, 1, 1, 1, 1), (1, 1, 1, 1, 1, 1), False, 2, '1 + x + 3/2*x^2 to 2']
+>>> TWO, ONE = Witt.single(2, 4), Witt.single(1, 4)
+>>> [TWO.ghosts, TWO.counts, TWO.as_row().whole(), str(ONE.plus(ONE)), ONE.plus(ONE).ghosts, TWO.times(ONE) == TWO, ONE.moved(2).coordinates]
+[(2, 4, 8, 16), (2, 1, 2, 3), (1, 2, 4, 8, 16), 'witt 2 -1 -2 -4', (2, 2, 2, 2), True, (0, 1, 0, 0)]
+>>> [Witt.single(3, 6).taken(2).coordinates, ONE.moved(2).taken(2) == ONE.cut(2).plus(ONE.cut(2)), ONE.plus(ONE).rests(5), Witt.of_row(Row((1, 1, 2, 3))).counts, str(artin_row(2, 4))]
+[(9, 0, 0), True, (2, 4, 3, 1), (1, 1, 1), '1 + x + x^2 + 2/3*x^3 + 2/3*x^4 to 4']
+>>> counts_of((1, 2))
+raises InvalidOperation
+"""
+
+STAGE_12 = """
+>>> ELEVEN, LAST = Cubic.told(11), Cubic(0, 0, 1, -1, 0)
+>>> [str(ELEVEN.w_row(8)), str(ELEVEN.differential_row(7)), ELEVEN.discriminant, ELEVEN.second, str(ELEVEN)]
+['x^3 - x^5 + x^6 + x^7 - 3*x^8 to 8', '1 - x^2 + 2*x^3 + x^4 - 6*x^5 + 5*x^6 + 12*x^7 to 7', -11, 16, 'cubic 0 -1 1 0 0']
+>>> [str(LAST.log_row(5)), LAST.law_by_log(6) == LAST.law_by_lines(6), ELEVEN.law_by_log(5).double.at(2, 2) == Ratio(-3), Cubic(2, 0, 0, 0, 0).law_by_log(4) == Law.multiplicative(4, -2)]
+['x + 1/2*x^4 - 2/5*x^5 to 5', True, True, True]
+>>> [[ELEVEN.trace_at(prime) for prime in (2, 3, 5, 7, 11, 13)], ELEVEN.kind_at(11), Cubic.told(27).kind_at(3), ELEVEN.height_at(2), ELEVEN.height_at(3), Cubic.told(27).height_at(3), LAST.height_at(2)]
+[[-2, -1, 1, -2, 1, 4], 'node', 'cusp', 2, 1, None, 2]
+>>> [ELEVEN.holds_at(1, 0), ELEVEN.holds_at(Ratio(1, 2), 0)]
+[True, False]
+>>> Cubic.told(12)
+raises InvalidCount(12)
+"""
+
+STAGE_13 = """
+>>> from lawseries.cubic.cubics import Cubic
+>>> ELEVEN = cubic_rule(Cubic.told(11))
+>>> [ELEVEN.level, ELEVEN.row_to(12).whole()[1:], ELEVEN.law_to(12).is_whole, ELEVEN.told_type(2), ELEVEN.told_type(11), ELEVEN.height_at(2, 12), ELEVEN.height_at(5, 4)]
+[11, (1, -2, -1, 2, 1, 2, -2, 0, -2, -2, 1, -2), True, (2, 1), (-1, 0), 2, None]
+>>> [eta_entries({1: 2, 11: 2}, 8), rule_fault(11, (1, -2, -1, 2)), rule_fault(1, (1, 3, 5, 6)), rule_fault(2, (1, 3, 5, 9, 0, 15)), is_rule_row(1, (2,)), str(ELEVEN)]
+[(0, 1, -2, -1, 2, 1, 2, -2, 0), None, 4, None, False, 'rule of level 11']
+>>> str(ELEVEN.log_to(4))
+'x - x^2 - 1/3*x^3 + 1/2*x^4 to 4'
+>>> ELEVEN.number_at(25)
+raises InvalidCount(25)
+"""
+
+STAGE_14 = """
+>>> CUBE, DOUBLE_FOLD = plain_fold(3, 4, 1), plain_fold(2, 4, 2)
+>>> [str(CUBE), str(log_of_fold(3, CUBE)), str(law_of_fold(3, CUBE).double.at(1, 2)), str(residue_law(3, CUBE, 2).multiple(2)), fold_height(2, DOUBLE_FOLD), str(law_of_fold(2, DOUBLE_FOLD).double.at(2, 2))]
+['3*x + x^3 to 4', 'x - 1/24*x^3 to 4', '1/8', '2*x + 7*x^3 to 4 modulo 9', 2, '3/7']
+>>> [str(scalar_row(3, CUBE, 2)), str(scalar_row(3, CUBE, Ratio(1, 2))), law_of_fold(2, Row((0, 2, 1, 0))) == Law.multiplicative(3, 1), told_fold(3, Law.multiplicative(3, 1)).whole(), told_fold(3, Law.additive(3))]
+['2*x + 1/4*x^3 to 4', '1/2*x - 1/64*x^3 to 4', True, (0, 3, 3, 1), None]
+>>> [str(row_between_folds(3, Row((0, 3, 3, 1)), plain_fold(3, 3, 1))), is_fold(3, Row((0, 3, 3, 1))), is_fold(3, Row((0, 3, 1, 1))), is_fold(2, Row((0, 2, 0))), is_fold(3, (0, 3, 0, 1))]
+['x - 1/2*x^2 + 3/8*x^3 to 3', True, False, False, False]
+>>> scalar_row(3, CUBE, Ratio(1, 3))
+raises InvalidOperation
+"""
+
+STAGE_15 = """
+>>> TODD, SIGNS = Law.multiplicative(6, -1), Law.quadric(6, 0, 1)
+>>> [[str(one) for one in projective_numbers(SIGNS)], str(characteristic_row(TODD)), genus_fault(SOME), genus_fault(law_of_projective((0, 0, 1)))]
+[['1', '0', '1', '0', '1', '0'], '1 + 1/2*x + 1/12*x^2 - 1/720*x^4 to 5', None, ('H', 2, 2)]
+>>> [str(surface_numbers(SOME)[(2, 3)]), str(surface_numbers(SOME)[(1, 4)]), str(surface_numbers(TODD)[(3, 3)]), str(surface_numbers(SIGNS)[(2, 3)])]
+['-6', '-1', '1', '1']
+>>> [str(sequence_of(TODD, 2)[(1, 1)]), str(sequence_of(TODD, 2)[(2,)]), str(sequence_of(SIGNS, 2)[(2,)]), str(sequence_of(SOME, 3)[(2, 1)])]
+['1/12', '1/12', '-2/3', '-1/8']
+>>> [product_table((2,)), product_table((1, 1)), surface_table(2, 2), end_number(product_table((2, 1))), end_number(surface_table(2, 3))]
+[{(1, 1): 9, (2,): 3}, {(1, 1): 8, (2,): 4}, {(1, 1, 1): 48, (2, 1): 24, (3,): 6}, 0, -10]
+>>> [str(value_at(SOME, product_table((1, 1)))), str(value_at(SOME, product_table((3, 1)))), str(value_at(SOME, surface_table(2, 3))), str(value_at(SIGNS, product_table((2, 2))))]
+['1', '-1', '-6', '1']
+>>> law_of_projective(())
+raises InvalidGenus
+"""
+
+STAGE_16 = """
+>>> LOG, OWN = log_of(TIMES), log_of(SOME)
+>>> [[str(number) for number in numbers_of(LOG)], [str(number) for number in numbers_of(OWN)], str(number_at(LOG, 4)), log_of_numbers(numbers_of(OWN)) == OWN]
+[['1', '-1/2', '1/6', '0', '-1/30', '0'], ['1', '1/2', '-1/2', '0', '141/10'], '-1/30', True]
+>>> [bottom_bound(0), bottom_bound(1), bottom_bound(2), bottom_bound(4), bottom_bound(12), residue_at(LOG, 5, 4), residue_at(OWN, 5, 4), residue_at(LOG, 3, 2)]
+[1, 2, 6, 30, 2730, 4, 3, 2]
+>>> [is_of_integers(LOG), is_of_integers(Row((0, 1, Ratio(1, 4)))), str(scaled_log(OWN, 2)), [str(number) for number in numbers_of(scaled_log(OWN, 2))]]
+[True, False, 'x + x^2 - 2*x^4 + 32/5*x^5 to 5', ['1', '1', '-2', '0', '1128/5']]
+>>> residue_at(LOG, 2, 2)
+raises InvalidOperation
+"""
+
+STAGE_17 = """
+>>> desk, kept = Desk(), ("whole", "one")
+>>> [desk.put("one", Law.multiplicative(3, 1)), desk.demand(kept), desk.fold("two", "one", 2), str(desk)]
+[((), ('law one: law of degree 3 with 1 - x + x^2 to 2',)), ((), ()), ((), ('row two: 2*x + x^2 to 3',)), 'desk of 1 laws, 1 rows, 1 pledges']
+>>> [desk.bind("four", "one", "two", "two"), desk.demand(("fold", "four", "one", 4)), desk.load("half", Row((0, 1, 0, Ratio(1, 2))))]
+[((), ('row four: 4*x + 6*x^2 + 4*x^3 to 3',)), ((), ()), ((), ('row half: x + 1/2*x^3 to 3',))]
+>>> desk.turn("one", "half")
+raises Refused(("whole", "one"))
+>>> [desk.waive(kept), desk.undo(many=3), desk.redo(), len(desk), desk.changes]
+[((), ()), (('row half: x + 1/2*x^3 to 3',), ()), ((), ()), 2, 5]
+"""
+
+STAGES = [
+    STAGE_1, STAGE_2, STAGE_3, STAGE_4, STAGE_5, STAGE_6, STAGE_7, STAGE_8, STAGE_9, STAGE_10,
+    STAGE_11, STAGE_12, STAGE_13, STAGE_14, STAGE_15, STAGE_16, STAGE_17,
+]
+MODULES = [
+    numbers, ratios, rows, doubles, laws, logs, steps, rows_between, heights, parts, curves, ghosts,
+    cubics, eulers, folds, genera, bernoullis, desk,
+]
 
 
 def all_names():

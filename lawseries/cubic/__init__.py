@@ -1,0 +1,1 @@
+"""Cubics: their rows, laws and traces."""

@@ -1,0 +1,1 @@
+"""Curves of laws: shifted, stretched, picked, and told by terms."""

@@ -1,0 +1,1 @@
+"""Rows of integers that go by the rules of Euler."""

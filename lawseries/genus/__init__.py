@@ -1,0 +1,1 @@
+"""Genera: laws that are told by numbers of manifolds."""

@@ -1,0 +1,1 @@
+"""Ghosts: integers whose row is whole."""

@@ -1,0 +1,1 @@
+"""Laws at one prime that are told by their p-fold."""

@@ -1,0 +1,1 @@
+"""Numbers of Bernoulli, for any log."""

@@ -1,0 +1,1 @@
+"""A desk with laws and rows that keeps what was promised."""
