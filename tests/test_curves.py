@@ -393,13 +393,16 @@ class TestWholeLaws(Checks):
         self.assertLessEqual({None, 2, 3, 5}, seen)
 
     def test_whole_curves(self):
-        """10.4: whole curves of a whole law are led to whole ones."""
+        """10.4 and 0.14: whole curves of a whole law are led to whole ones."""
         for given in laws_of(0):
             if given.is_whole:
                 for curve in curves_of(0):
                     if curve.is_whole:
                         for n in range(1, together(given, curve) + 1):
                             self.assertTrue(picked(given, curve, n).is_whole)
+                        for n in (1, 2, 24):
+                            self.assertTrue(shifted(curve, n).is_whole)
+                            self.assertTrue(stretched(curve, -n).is_whole)
 
     def test_logs_at_powers(self):
         """10.4: F_q x is 0 for all primes q but p exactly if the log has entries at powers of p alone."""

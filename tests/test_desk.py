@@ -227,6 +227,8 @@ class TestChanges(DeskChecks):
         # The sixth row is there: what cannot be added is told ahead of it.
         self.assertEqual(len([line for line in desk.lines if line.startswith("row")]), 6)
         self.refused(errors.InvalidOperation, calling(desk, "bind"), "new", "times", "whole", "bent")
+        self.refused(errors.InvalidOperation, calling(desk, "bind"), "new", "times", "bent", "modular")
+        self.refused(errors.InvalidOperation, calling(desk, "bind"), "new", "five", "modular", "bent")
         self.too_many(6, calling(desk, "bind"), "new", "times", "two", "bent")
 
     def test_fold(self):
@@ -722,8 +724,8 @@ class TestReading(DeskChecks):
         other.waive(("whole", "times"))
         other.demand(("whole", "times"))
         self.assertIs(one == other, False)
-        for change in (("drop", "half"), ("turn", "plus", "bent"), ("rename", {name: name * 2 if name == "half" else name
-                                                                            for name in one.names})):
+        names = {name: "halfhalf" if name == "half" else name for name in one.names}
+        for change in (("drop", "half"), ("turn", "plus", "bent"), ("rename", names)):
             other = full_desk()
             getattr(other, change[0])(*change[1:])
             self.assertIs(one == other, False)

@@ -131,16 +131,20 @@ class TestNumbers(Checks):
 
     def test_whole_by_all_roads(self):
         """0.12 to 0.14 and 0.20: by entries, steps, types, picked curves and genera."""
+        primes = [p for p in range(2, 998) if all(p % d for d in range(2, p))]
+        seen = set()
         for given in laws():
             log = log_of(given)
-            primes = [p for p in range(2, 998) if all(p % d for d in range(2, p)) and (p < 12 or p > 990)]
             told = [
                 given.is_whole, log_fault(log) is None, steps_by_log(log.entries)[0] is not None,
                 broken_prime(given) is None, genus_fault(given) is None,
             ]
+            # A prime above 997 is not asked for.
+            if given.double.common_bottom % 1009:
+                told.append(all(type_of(log, p) is not None for p in primes))
             self.assertEqual(len(set(told)), 1)
-            if given.is_whole:
-                self.assertTrue(all(type_of(log, p) is not None for p in primes))
+            seen.update(told)
+        self.assertEqual(seen, {True, False})
 
     def test_ones(self):
         """15.3."""

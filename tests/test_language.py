@@ -298,6 +298,20 @@ class TestLanguage(unittest.TestCase):
                 found = set(re.findall(r"\w+", token.string)) & NEVER_WORDS
                 self.assertFalse(found, f"{path}:{token.start[0]}")
 
+    def test_with(self):
+        """L6 With: an __exit__ only puts back what it keeps, and asks nothing of the error."""
+        for place, node in self.nodes():
+            if isinstance(node, ast.FunctionDef) and node.name == "__exit__":
+                self.assertEqual([one.arg for one in node.args.args], ["self", "kind", "value", "trace"], place)
+                for row in node.body:
+                    self.assertIsInstance(row, ast.Assign, place)
+                    self.assertIsInstance(row.value, ast.Attribute, place)
+                    self.assertIsInstance(row.value.value, ast.Name, place)
+                    self.assertNotIn(row.value.value.id, ("kind", "value", "trace"), place)
+            if isinstance(node, ast.With):
+                for item in node.items:
+                    self.assertIsInstance(item.context_expr, (ast.Call, ast.Name, ast.Attribute), place)
+
     def test_decorators_and_errors(self):
         """L4, L5, L19: decorators of methods, errors that are made where they are raised."""
         for place, node in self.nodes():

@@ -13,7 +13,7 @@ from lawseries.base.ratios import Ratio, ratio_of
 from lawseries.errors import InvalidCurve, InvalidOperation
 from lawseries.law.laws import check_law
 from lawseries.log.logs import log_of
-from lawseries.row.rows import MAX_ROW, Row, check_curve, is_curve, made_row
+from lawseries.row.rows import Row, check_curve, made_row
 from lawseries.step.steps import lift_of
 
 MAX_CURVE = 24

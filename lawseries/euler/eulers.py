@@ -1,7 +1,7 @@
 """Rules: integers a(n) that are told by those at primes, by Euler's rules, and eta products."""
 
-from lawseries.base.numbers import check_count, prime_powers
 from lawseries.base.integers import powers_to
+from lawseries.base.numbers import check_count, prime_powers
 from lawseries.base.ratios import is_short_integer, made_ratio
 from lawseries.cubic.cubics import Cubic
 from lawseries.errors import InvalidCubic, InvalidOperation, InvalidPrime
@@ -102,7 +102,7 @@ def cubic_rule(cubic):
     for prime in RULE_PRIMES:
         if cubic.discriminant % prime == 0:
             level = level * prime
-    return Rule(level, {prime: cubic.trace_at(prime) for prime in RULE_PRIMES})
+    return Rule(level, {number: cubic.trace_at(number) for number in RULE_PRIMES})
 
 
 def eta_entries(table, size):

@@ -120,8 +120,8 @@ def _product(one, other, tops):
 def _table_by(total, first, tops, number):
     """The multiple of the last place in `first` times the parts of a total, for all partitions."""
     parts = [
-        {place: worth for place, worth in total.items() if sum(place) == degree}
-        for degree in range(number + 1)
+        {place: worth for place, worth in total.items() if sum(place) == size}
+        for size in range(number + 1)
     ]
     table = {}
     for partition in all_partitions(number):

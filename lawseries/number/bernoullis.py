@@ -46,10 +46,7 @@ def log_of_numbers(numbers):
 def bottom_bound(place):
     """What the bottom of the number with an index divides, for each log of integers."""
     check_count(place, 0, _MAX_PLACE)
-    if place == 0:
-        return 1
-    if place % 2 == 1:
-        return 2
+    # For an odd place this is 2, the only prime that is odd when lessened by 1; for 0 it is 1.
     found = 1
     for number in range(2, place + 2):
         if place % (number - 1) == 0 and is_prime(number):

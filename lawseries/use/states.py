@@ -50,11 +50,7 @@ def _is_kept(pledge, laws, rows):
 
 
 def _is_kept_fold(row, given, number):
-    if row is None or given is None:
-        return False
-    if row.modulus != given.modulus or row.degree != given.degree:
-        return False
-    return given.multiple(number) == row
+    return row is not None and given is not None and given.multiple(number) == row
 
 
 def _is_kept_between(row, one, other):
